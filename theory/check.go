@@ -65,7 +65,7 @@ func (s *search) answer() (Answer, api.Errno) {
 	for {
 		d, err := s.question.draft(values)
 		if err != api.OK {
-			// Numbers are too large to be told: others might do, but these are all that there are.
+			// What a sum comes to is too large: other values might do, but no others are sought.
 			return Answer{Steps: s.steps}, api.OK
 		}
 		if d.quarrels == 0 {
