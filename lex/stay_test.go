@@ -2,7 +2,9 @@ package lex_test
 
 import (
 	"slices"
+	"strings"
 	"testing"
+	"unsafe"
 
 	"surety/api"
 	"surety/lex"
@@ -49,5 +51,19 @@ func TestRefusedLeavesNothing(t *testing.T) {
 	for _, bad := range []string{"a @", "007", "1a", "x &"} {
 		lex.Tokens(bad)
 		wantTokens(t, "b", api.Token{Kind: 1, Text: "b"})
+	}
+}
+
+// P2: what is answered is new memory, texts too: a small one doesn't hold on to the whole source.
+func TestTextsAreNew(t *testing.T) {
+	s := strings.Repeat("name <= 10 ", 100)
+	list, _ := lex.Tokens(s)
+	for _, token := range list {
+		if unsafe.StringData(token.Text) == unsafe.StringData(s[token.At:]) {
+			t.Fatalf("Tokens: %v lies in the source", token)
+		}
+	}
+	if joined, _ := lex.Join(s); joined != s || unsafe.StringData(joined) == unsafe.StringData(s) {
+		t.Errorf("Join of one text answers it itself")
 	}
 }
