@@ -1,6 +1,7 @@
 package typing_test
 
 import (
+	"strings"
 	"testing"
 
 	"surety/api"
@@ -63,15 +64,7 @@ func TestNoReturn(t *testing.T) {
 
 // noResult: of a body whose returns give back a digit.
 func noResult(body string) string {
-	out := []byte{}
-	for i := 0; i < len(body); i++ {
-		out = append(out, body[i])
-		if len(out) > 6 && string(out[len(out)-7:]) == "return " {
-			out = out[:len(out)-1]
-			i++
-		}
-	}
-	return string(out)
+	return strings.NewReplacer("return 1;", "return;", "return 2;", "return;", "return 3;", "return;").Replace(body)
 }
 
 // P13.3: names that aren't there.

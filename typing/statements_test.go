@@ -1,6 +1,7 @@
 package typing_test
 
 import (
+	"slices"
 	"strings"
 	"testing"
 
@@ -129,24 +130,24 @@ func TestElem(t *testing.T) {
 
 // P13.5: if, while, assert, print, do.
 func TestConditions(t *testing.T) {
-	for _, other := range []string{"1", "i", "null", "a", "is", "this", "p == p", "i > j", "true"} {
-		isBool := strings.Contains(other, "==") || strings.Contains(other, ">") || other == "true"
-		isInt := other == "1" || other == "i"
-		for _, text := range []string{"if (^X) { }", "while (^X) { }", "assert ^X;", "while (p) invariant ^X { }", "while (p) invariant p invariant ^X { }", "if (p) { } else if (^X) { }", "let y: int{v | ^X} = 1;"} {
-			plain := strings.ReplaceAll(strings.Replace(text, "^", "", 1), "X", other)
+	conditions := []string{"if (X) { }", "while (X) { }", "assert X;", "while (p) invariant X { }", "while (p) invariant p invariant X { }", "if (p) { } else if (X) { }", "let y: int{v | X} = 1;"}
+	for _, part := range []string{"p ^== p", "i ^> j", "^true", "^1", "^i", "i ^+ j", "^null", "^a", "^this"} {
+		plain, _ := marked(t, part)
+		isBool := slices.Contains([]string{"p == p", "i > j", "true"}, plain)
+		isInt := slices.Contains([]string{"1", "i", "i + j"}, plain)
+		for _, text := range conditions {
 			if isBool {
-				fine(t, within(plain))
-			} else if !strings.Contains(plain, "{v") || other != "is" {
-				wantMarked(t, api.ErrType, within(strings.ReplaceAll(text, "X", other)))
+				fine(t, within(strings.Replace(text, "X", plain, 1)))
+			} else {
+				wantMarked(t, api.ErrType, within(strings.Replace(text, "X", part, 1)))
 			}
 		}
 		if isInt {
-			fine(t, within("print "+other+";"))
+			fine(t, within("print "+plain+";"))
 		} else {
-			at := strings.Replace("^"+other, "^p == p", "p ^== p", 1)
-			wantMarked(t, api.ErrType, within("print "+strings.Replace(at, "^i > j", "i ^> j", 1)+";"))
+			wantMarked(t, api.ErrType, within("print "+part+";"))
 		}
-		fine(t, within(other+";"))
+		fine(t, within(plain+";"))
 	}
 	each(t, []wrong{
 		{api.ErrType, "print a.^nothing();"},
